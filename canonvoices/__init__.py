@@ -1,0 +1,1 @@
+"""Voices that sing one melody, one after another."""
