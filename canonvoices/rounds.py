@@ -113,7 +113,7 @@ class Round:
 
     def _heard(self):
         """Return the ascending pitches of each beat before the round repeats itself."""
-        return [_sounding(self._sung(beat)) for beat in range(self._start + self._length)]
+        return [sounding(self._sung(beat)) for beat in range(self._start + self._length)]
 
     def _like(self, beat):
         """Return the first beat from which the round goes on as from this one."""
@@ -136,8 +136,12 @@ def check_clashing(clashing):
 def clashing_pairs(chord, clashing):
     """Return the pairs of voices of a chord whose pitches clash, in ascending order."""
     many = len(chord)
-    pairs = [(one, other) for one in range(many) for other in range(one + 1, many)]
-    return [(one, other) for one, other in pairs if _clash(chord[one], chord[other], clashing)]
+    return [
+        (one, other)
+        for one in range(many)
+        for other in range(one + 1, many)
+        if pitches_clash(chord[one], chord[other], clashing)
+    ]
 
 
 def _check_voices(voices):
@@ -157,7 +161,7 @@ def _is_voice(value):
     return is_number(delay, 0, MAX_DELAY) and is_number(shift, -MAX_SHIFT, MAX_SHIFT)
 
 
-def _clash(one, other, clashing):
+def pitches_clash(one, other, clashing):
     """Tell whether two voices clash by what they sing."""
     if one is None or other is None:
         return False
@@ -174,6 +178,6 @@ def _beat_of(counts, number):
     return beat
 
 
-def _sounding(chord):
+def sounding(chord):
     """Return the ascending list of the pitches of a chord."""
     return sorted([pitch for pitch in chord if pitch is not None])

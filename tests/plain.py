@@ -43,3 +43,8 @@ def clashes(notes, voices, clashing, first, last):
 def heard(notes, voices, beat):
     """Return the ascending list of the pitches that sound in a beat."""
     return sorted(pitch for pitch in chord(notes, voices, beat) if pitch is not None)
+
+
+def is_integer(value):
+    """Tell whether a value is an integer; True and False are none."""
+    return isinstance(value, int) and not isinstance(value, bool)
